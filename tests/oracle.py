@@ -1,0 +1,117 @@
+"""A second way to the same answers, slow and apart from the program, for the tests alone.
+
+Places are judged by eliminating number after number from the conditions; ways by determinants.
+"""
+from fractions import Fraction
+from itertools import combinations
+from math import gcd
+
+
+def tightest(rows):
+    """The rows in lowest terms, of those with the same numbers a only the tightest."""
+    kept = {}
+    for row in rows:
+        common = gcd(*row[:-1])
+        key = tuple(number // common for number in row[:-1]) if common else tuple(row[:-1])
+        bound = Fraction(row[-1], common) if common else Fraction(row[-1])
+        if key not in kept or bound < kept[key]:
+            kept[key] = bound
+    return [[number * bound.denominator for number in key] + [bound.numerator] for key, bound in kept.items()]
+
+
+def without_first(rows):
+    """What the conditions say of the numbers behind the first one."""
+    above = [row for row in rows if row[0] > 0]
+    below = [row for row in rows if row[0] < 0]
+    left = [row[1:] for row in rows if row[0] == 0]
+    for high in above:
+        for low in below:
+            left.append([high[0] * b - low[0] * a for a, b in zip(high[1:], low[1:])])
+    return tightest(left)
+
+
+def extent(n, direction, conditions):
+    """None if there's no place, else the least and the most of the direction, None for no end."""
+    rows = [list(row[:n]) + [0, row[n]] for row in conditions]
+    rows.append([-number for number in direction] + [1, 0])
+    rows.append(list(direction) + [-1, 0])
+    rows = tightest(rows)
+    for turn in range(n):
+        rows = without_first(rows)
+    if any(row[0] == 0 and row[1] < 0 for row in rows):
+        return None
+    highs = [Fraction(row[1], row[0]) for row in rows if row[0] > 0]
+    lows = [Fraction(row[1], row[0]) for row in rows if row[0] < 0]
+    least = max(lows) if lows else None
+    greatest = min(highs) if highs else None
+    if least is not None and greatest is not None and least > greatest:
+        return None
+    return least, greatest
+
+
+def determinant(table):
+    if not table:
+        return 1
+    total = 0
+    for k, number in enumerate(table[0]):
+        smaller = [row[:k] + row[k + 1:] for row in table[1:]]
+        total += (-1) ** k * number * determinant(smaller)
+    return total
+
+
+def product(first, second):
+    return sum(a * b for a, b in zip(first, second))
+
+
+def parts_making(columns, target):
+    """The parts of independent columns that make the target, all above 0, or None."""
+    gram = [[product(a, b) for b in columns] for a in columns]
+    whole = determinant(gram)
+    if whole == 0:
+        return None
+    sides = [product(a, target) for a in columns]
+    parts = []
+    for k in range(len(columns)):
+        swapped = [row[:k] + [side] + row[k + 1:] for row, side in zip(gram, sides)]
+        parts.append(Fraction(determinant(swapped), whole))
+    for k, number in enumerate(target):
+        if sum(part * column[k] for part, column in zip(parts, columns)) != number:
+            return None
+    return parts if all(part > 0 for part in parts) else None
+
+
+def ways(columns, target, fewest, most):
+    """All ways in order: pairs of the conditions' numbers and their parts."""
+    for size in range(fewest, most + 1):
+        for chosen in combinations(range(len(columns)), size):
+            parts = parts_making([columns[k] for k in chosen], target)
+            if parts is not None:
+                yield chosen, parts
+
+
+def told(value):
+    return [value.numerator, value.denominator]
+
+
+def told_parts(way):
+    chosen, parts = way
+    numbers = [len(chosen)]
+    for k, part in zip(chosen, parts):
+        numbers += [k] + told(part)
+    return numbers
+
+
+def most(n, direction, conditions):
+    found = extent(n, direction, conditions)
+    if found is None:
+        target = [0] * n + [-1]
+        return [0] + told_parts(next(ways(conditions, target, 1, n + 1)))
+    if found[1] is None:
+        return [1]
+    greatest = Fraction(found[1])
+    columns = [row[:n] for row in conditions]
+    for way in ways(columns, direction, 0, n):
+        worth = sum(conditions[k][n] * part for k, part in zip(*way))
+        if worth == greatest:
+            return [2] + told(greatest) + told_parts(way)
+    raise AssertionError("no way is worth the most")

@@ -1,0 +1,1 @@
+"""Linear questions, with a witness."""

@@ -1,0 +1,187 @@
+"""Linear questions over one to three numbers: each answer comes with what proves it.
+
+A condition is a list: the numbers a and behind them the bound b.
+A fraction is a list: what's above, what's below, with nothing in common, what's below above 0.
+A way is a list of steps, each a condition's number and behind it the condition's part, a fraction.
+"""
+
+MOST_NUMBERS = 3
+MOST_CONDITIONS = 8
+NUMBER_LIMIT = 100
+BOUND_LIMIT = 10000
+
+
+def most(n, direction, conditions):
+    """0 and the parts that tell that there's no place; 1 if it goes on without end; 2, the most, the prices."""
+    refused = refusal(n, direction, conditions)
+    if refused < 0:
+        return [refused]
+    nonsense = no_place(n, conditions)
+    if nonsense is not None:
+        return [0] + told_parts(nonsense)
+    prices = cheapest_way(direction, conditions)
+    if prices is None:
+        return [1]
+    return [2] + worth(prices, conditions) + told_parts(prices)
+
+
+def refusal(n, direction, conditions):
+    """The refusal that is told first, or 0 where nothing is refused."""
+    if n < 1 or n > MOST_NUMBERS:
+        return -3
+    if len(conditions) > MOST_CONDITIONS:
+        return -2
+    for condition in conditions:
+        if not is_condition(n, condition):
+            return -1
+    if not is_direction(n, direction):
+        return -4
+    return 0
+
+
+def is_condition(n, condition):
+    if len(condition) != n + 1:
+        return False
+    return is_direction(n, condition[:n]) and abs(condition[n]) <= BOUND_LIMIT
+
+
+def is_direction(n, numbers):
+    if len(numbers) != n:
+        return False
+    return all([abs(number) <= NUMBER_LIMIT for number in numbers])
+
+
+def no_place(n, conditions):
+    """The first way to make nonsense of the conditions, or None where there's a place within."""
+    # The bounds are made as well as the numbers a: all of these 0, but the bounds come to -1.
+    target = [0] * n + [-1]
+    for chosen in choices(len(conditions), n + 1):
+        way = way_to_make(target, conditions, chosen)
+        if way is not None:
+            return way
+    return None
+
+
+def cheapest_way(direction, conditions):
+    """The first of the ways to make the direction whose worth is least, or None where there's no way."""
+    best = None
+    for chosen in choices(len(conditions), len(direction)):
+        way = way_to_make(direction, conditions, chosen)
+        if way is None:
+            continue
+        if best is None or is_below(worth(way, conditions), worth(best, conditions)):
+            best = way
+    return best
+
+
+def choices(count, size):
+    """All choices of at most size of the numbers below count, in the order that ways are in."""
+    found = [[]]
+    longest = [[]]
+    for step in range(size):
+        longest = longer_choices(longest, count)
+        found.extend(longest)
+    return found
+
+
+def longer_choices(shorter, count):
+    longer = []
+    for chosen in shorter:
+        first = chosen[-1] + 1 if len(chosen) > 0 else 0
+        for number in range(first, count):
+            longer.append(chosen + [number])
+    return longer
+
+
+def way_to_make(target, conditions, chosen):
+    """The way that the chosen conditions have to make the target, or None if they have none."""
+    # A target one longer than the numbers a asks for the bounds too, as they stand behind these.
+    columns = [conditions[number][:len(target)] for number in chosen]
+    parts = only_parts(columns, target)
+    if parts is None:
+        return None
+    return [[chosen[k]] + parts[k] for k in range(len(chosen))]
+
+
+def only_parts(columns, target):
+    """The parts, all above 0, that make the target; None if there are none or others make it too."""
+    rows = [equation(columns, target, k) for k in range(len(target))]
+    count = len(columns)
+    for column in range(count):
+        lead = lead_row(rows, column)
+        if lead is None:
+            return None
+        rows = cleared(rows, column, lead)
+    if any([row[count] != 0 for row in rows[count:]]):
+        return None
+    parts = [fraction(rows[k][count], rows[k][k]) for k in range(count)]
+    if any([part[0] <= 0 for part in parts]):
+        return None
+    return parts
+
+
+def equation(columns, target, k):
+    return [column[k] for column in columns] + [target[k]]
+
+
+def lead_row(rows, column):
+    """The first row from the column's place on that isn't 0 there, or None."""
+    for k in range(column, len(rows)):
+        if rows[k][column] != 0:
+            return k
+    return None
+
+
+def cleared(rows, column, lead):
+    """The rows, the lead one at the column's place, with 0 in that column of all others."""
+    pivot = rows[lead]
+    others = [without(row, pivot, column) for row in rows[:lead] + rows[lead + 1:]]
+    return others[:column] + [pivot] + others[column:]
+
+
+def without(row, pivot, column):
+    # Multiplied crosswise, so that all numbers stay whole.
+    return [row[k] * pivot[column] - pivot[k] * row[column] for k in range(len(row))]
+
+
+def worth(way, conditions):
+    """The bounds, each so many times, together."""
+    above = 0
+    below = 1
+    for step in way:
+        bound = conditions[step[0]][-1]
+        above = above * step[2] + bound * step[1] * below
+        below = below * step[2]
+    return fraction(above, below)
+
+
+def told_parts(way):
+    return [len(way)] + joined(way)
+
+
+def joined(rows):
+    numbers = []
+    for row in rows:
+        numbers.extend(row)
+    return numbers
+
+
+def fraction(above, below):
+    common = common_divisor(above, below)
+    if below < 0:
+        common = -common
+    return [above // common, below // common]
+
+
+def common_divisor(first, second):
+    greater = abs(first)
+    lesser = abs(second)
+    while lesser > 0:
+        rest = greater % lesser
+        greater = lesser
+        lesser = rest
+    return greater
+
+
+def is_below(first, second):
+    return first[0] * second[1] < second[0] * first[1]
