@@ -115,3 +115,29 @@ def most(n, direction, conditions):
         if worth == greatest:
             return [2] + told(greatest) + told_parts(way)
     raise AssertionError("no way is worth the most")
+
+
+def fixed(direction, value):
+    """Two conditions: the direction times a place is just the value."""
+    row = [number * value.denominator for number in direction] + [value.numerator]
+    return [row, [-number for number in row]]
+
+
+def place(n, direction, conditions):
+    found = extent(n, direction, conditions)
+    if found is None:
+        return [-6]
+    if found[1] is None:
+        return [-7]
+    best = conditions + fixed(direction, Fraction(found[1]))
+    axes = [[int(k == j) for j in range(n)] for k in range(n)]
+    extents = [extent(n, axis, best) for axis in axes]
+    only = all(least is not None and least == greatest for least, greatest in extents)
+    numbers = []
+    for axis in axes:
+        greatest = extent(n, axis, best)[1]
+        if greatest is None:
+            return [0]
+        numbers += told(Fraction(greatest))
+        best = best + fixed(axis, Fraction(greatest))
+    return [2 if only else 1] + numbers

@@ -25,6 +25,25 @@ def most(n, direction, conditions):
     return [2] + worth(prices, conditions) + told_parts(prices)
 
 
+def place(n, direction, conditions):
+    """2 (just one best place) or 1, and the best place that is greatest; 0 if that goes on without end."""
+    refused = refusal(n, direction, conditions)
+    if refused < 0:
+        return [refused]
+    if no_place(n, conditions) is not None:
+        return [-6]
+    greatest = highest(direction, conditions)
+    if greatest is None:
+        return [-7]
+    # No place within has more than the most, so those that have at least as much are the best ones.
+    best = conditions + [at_least(direction, greatest)]
+    numbers = greatest_place(n, best)
+    if numbers is None:
+        return [0]
+    kind = 2 if is_least_place(n, best, numbers) else 1
+    return [kind] + joined(numbers)
+
+
 def refusal(n, direction, conditions):
     """The refusal that is told first, or 0 where nothing is refused."""
     if n < 1 or n > MOST_NUMBERS:
@@ -72,6 +91,48 @@ def cheapest_way(direction, conditions):
         if best is None or is_below(worth(way, conditions), worth(best, conditions)):
             best = way
     return best
+
+
+def highest(direction, conditions):
+    """The most of the direction, or None if it goes on without end; there must be a place within."""
+    way = cheapest_way(direction, conditions)
+    if way is None:
+        return None
+    return worth(way, conditions)
+
+
+def at_least(direction, value):
+    """The condition that the direction times a place isn't below the value."""
+    return [-value[1] * number for number in direction] + [-value[0]]
+
+
+def greatest_place(n, conditions):
+    """The place within whose first number is greatest, then its second, and so on; None if one has no end."""
+    narrowed = list(conditions)
+    numbers = []
+    for k in range(n):
+        axis = axis_of(n, k, 1)
+        value = highest(axis, narrowed)
+        if value is None:
+            return None
+        numbers.append(value)
+        narrowed.append(at_least(axis, value))
+    return numbers
+
+
+def is_least_place(n, conditions, numbers):
+    """Whether no place within has any number below the one given: beside the greatest place there's none then."""
+    for k in range(n):
+        value = highest(axis_of(n, k, -1), conditions)
+        if value is None or value != [-numbers[k][0], numbers[k][1]]:
+            return False
+    return True
+
+
+def axis_of(n, k, sign):
+    axis = [0] * n
+    axis[k] = sign
+    return axis
 
 
 def choices(count, size):
