@@ -101,6 +101,13 @@ def told_parts(way):
     return numbers
 
 
+def best_ways(n, direction, conditions, greatest):
+    columns = [row[:n] for row in conditions]
+    for way in ways(columns, direction, 0, n):
+        if sum(conditions[k][n] * part for k, part in zip(*way)) == greatest:
+            yield way
+
+
 def most(n, direction, conditions):
     found = extent(n, direction, conditions)
     if found is None:
@@ -109,12 +116,7 @@ def most(n, direction, conditions):
     if found[1] is None:
         return [1]
     greatest = Fraction(found[1])
-    columns = [row[:n] for row in conditions]
-    for way in ways(columns, direction, 0, n):
-        worth = sum(conditions[k][n] * part for k, part in zip(*way))
-        if worth == greatest:
-            return [2] + told(greatest) + told_parts(way)
-    raise AssertionError("no way is worth the most")
+    return [2] + told(greatest) + told_parts(next(best_ways(n, direction, conditions, greatest)))
 
 
 def fixed(direction, value):
@@ -141,3 +143,27 @@ def place(n, direction, conditions):
         numbers += told(Fraction(greatest))
         best = best + fixed(axis, Fraction(greatest))
     return [2 if only else 1] + numbers
+
+
+def slopes(n, condition, direction, conditions):
+    found = extent(n, direction, conditions)
+    if found is None:
+        return [-6]
+    if found[1] is None:
+        return [-7]
+    best = best_ways(n, direction, conditions, found[1])
+    parts = [dict(zip(*way)).get(condition, Fraction(0)) for way in best]
+    return told(min(parts)) + told(max(parts))
+
+
+def slope_of_bound(n, condition, direction, conditions, sign):
+    """By how much the most goes along with a bound that is moved by next to nothing; None if no place is left."""
+    # All bounds are made greater by far, so that a step of 1 is less than any two ways may differ by.
+    scale = 10 ** 40
+    scaled = [row[:n] + [row[n] * scale] for row in conditions]
+    moved = [list(row) for row in scaled]
+    moved[condition][n] += sign
+    after = extent(n, direction, moved)
+    if after is None:
+        return None
+    return told(sign * Fraction(after[1] - extent(n, direction, scaled)[1]))

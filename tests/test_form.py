@@ -33,6 +33,10 @@ def nodes(kind):
                 yield path.name, node
 
 
+def slopes_of_the_first(n, direction, conditions):
+    return linear.slopes(n, 0, direction, conditions)
+
+
 class Form(unittest.TestCase):
     def test_only_python_files(self):
         names = [path.name for path in PACKAGE.iterdir() if path.name != "__pycache__"]
@@ -89,7 +93,7 @@ class Quiet(unittest.TestCase):
     def test_it_prints_nothing(self):
         out = io.StringIO()
         with contextlib.redirect_stdout(out), contextlib.redirect_stderr(out):
-            for call in (linear.most, linear.place):
+            for call in (linear.most, linear.place, slopes_of_the_first):
                 call(2, [1, 1], [[1, 0, 1], [0, 1, 1]])
                 call(2, [1, 1], [[0, 0, -1]])
                 call(0, [], [])

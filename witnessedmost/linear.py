@@ -27,21 +27,27 @@ def most(n, direction, conditions):
 
 def place(n, direction, conditions):
     """2 (just one best place) or 1, and the best place that is greatest; 0 if that goes on without end."""
-    refused = refusal(n, direction, conditions)
+    refused = refusal_with_most(n, direction, conditions)
     if refused < 0:
         return [refused]
-    if no_place(n, conditions) is not None:
-        return [-6]
-    greatest = highest(direction, conditions)
-    if greatest is None:
-        return [-7]
     # No place within has more than the most, so those that have at least as much are the best ones.
-    best = conditions + [at_least(direction, greatest)]
+    best = conditions + [at_least(direction, highest(direction, conditions))]
     numbers = greatest_place(n, best)
     if numbers is None:
         return [0]
     kind = 2 if is_least_place(n, best, numbers) else 1
     return [kind] + joined(numbers)
+
+
+def slopes(n, condition, direction, conditions):
+    """The least and the greatest part of the condition in the ways to make the direction that are worth the most."""
+    if condition >= len(conditions):
+        return [-4]
+    refused = refusal_with_most(n, direction, conditions)
+    if refused < 0:
+        return [refused]
+    parts = [part_in(way, condition) for way in best_ways(direction, conditions)]
+    return least_and_greatest(parts)
 
 
 def refusal(n, direction, conditions):
@@ -55,6 +61,18 @@ def refusal(n, direction, conditions):
             return -1
     if not is_direction(n, direction):
         return -4
+    return 0
+
+
+def refusal_with_most(n, direction, conditions):
+    """The refusal that is told first where there has to be a most, or 0 where nothing is refused."""
+    refused = refusal(n, direction, conditions)
+    if refused < 0:
+        return refused
+    if no_place(n, conditions) is not None:
+        return -6
+    if highest(direction, conditions) is None:
+        return -7
     return 0
 
 
@@ -81,13 +99,16 @@ def no_place(n, conditions):
     return None
 
 
+def ways_to_make(direction, conditions):
+    """All ways to make the direction, in order."""
+    tried = [way_to_make(direction, conditions, chosen) for chosen in choices(len(conditions), len(direction))]
+    return [way for way in tried if way is not None]
+
+
 def cheapest_way(direction, conditions):
     """The first of the ways to make the direction whose worth is least, or None where there's no way."""
     best = None
-    for chosen in choices(len(conditions), len(direction)):
-        way = way_to_make(direction, conditions, chosen)
-        if way is None:
-            continue
+    for way in ways_to_make(direction, conditions):
         if best is None or is_below(worth(way, conditions), worth(best, conditions)):
             best = way
     return best
@@ -99,6 +120,20 @@ def highest(direction, conditions):
     if way is None:
         return None
     return worth(way, conditions)
+
+
+def best_ways(direction, conditions):
+    """All ways to make the direction whose worth is the most."""
+    greatest = highest(direction, conditions)
+    return [way for way in ways_to_make(direction, conditions) if worth(way, conditions) == greatest]
+
+
+def part_in(way, condition):
+    """The condition's part in the way, 0 where it's not among the way's conditions."""
+    for step in way:
+        if step[0] == condition:
+            return step[1:]
+    return [0, 1]
 
 
 def at_least(direction, value):
@@ -246,3 +281,14 @@ def common_divisor(first, second):
 
 def is_below(first, second):
     return first[0] * second[1] < second[0] * first[1]
+
+
+def least_and_greatest(fractions):
+    least = fractions[0]
+    greatest = fractions[0]
+    for value in fractions:
+        if is_below(value, least):
+            least = value
+        if is_below(greatest, value):
+            greatest = value
+    return least + greatest
