@@ -156,6 +156,20 @@ def slopes(n, condition, direction, conditions):
     return told(min(parts)) + told(max(parts))
 
 
+def needed(n, direction, conditions):
+    found = extent(n, direction, conditions)
+    if found is None:
+        return [-6]
+    if found[1] is None:
+        return [-7]
+    numbers = []
+    for k in range(len(conditions)):
+        left = extent(n, direction, conditions[:k] + conditions[k + 1:])
+        if left[1] != found[1]:
+            numbers.append(k)
+    return [len(numbers)] + numbers
+
+
 def slope_of_bound(n, condition, direction, conditions, sign):
     """By how much the most goes along with a bound that is moved by next to nothing; None if no place is left."""
     # All bounds are made greater by far, so that a step of 1 is less than any two ways may differ by.

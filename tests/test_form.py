@@ -93,7 +93,7 @@ class Quiet(unittest.TestCase):
     def test_it_prints_nothing(self):
         out = io.StringIO()
         with contextlib.redirect_stdout(out), contextlib.redirect_stderr(out):
-            for call in (linear.most, linear.place, slopes_of_the_first):
+            for call in (linear.most, linear.place, slopes_of_the_first, linear.needed):
                 call(2, [1, 1], [[1, 0, 1], [0, 1, 1]])
                 call(2, [1, 1], [[0, 0, -1]])
                 call(0, [], [])

@@ -50,6 +50,20 @@ def slopes(n, condition, direction, conditions):
     return least_and_greatest(parts)
 
 
+def needed(n, direction, conditions):
+    """How many conditions there are without which alone the most isn't that, then their numbers, rising."""
+    refused = refusal_with_most(n, direction, conditions)
+    if refused < 0:
+        return [refused]
+    greatest = highest(direction, conditions)
+    found = []
+    for k in range(len(conditions)):
+        # All places within stay so without a condition: the most is this one or another, or it goes on without end.
+        if highest(direction, conditions[:k] + conditions[k + 1:]) != greatest:
+            found.append(k)
+    return [len(found)] + found
+
+
 def refusal(n, direction, conditions):
     """The refusal that is told first, or 0 where nothing is refused."""
     if n < 1 or n > MOST_NUMBERS:
