@@ -1,4 +1,4 @@
-"""What slopes and needed have in common; a test case says how it asks: ask(self, n, direction, conditions)."""
+"""What several calls are tested for; a test case says how it asks: ask(self, n, direction, conditions)."""
 import copy
 
 import handed
@@ -10,7 +10,9 @@ REFUSED = (
 )
 
 
-class Refusals:
+class WrongConditions:
+    """Of n and the conditions: -3, -2, -1."""
+
     def test_n(self):
         for n in (0, 4, 5, 4294967295):
             size = min(n, 5)
@@ -44,6 +46,10 @@ class Refusals:
                     self.assertEqual(self.ask(n, [0] * n, [row]), [-1])
                     row[k] = sign * 4294967295
                     self.assertEqual(self.ask(n, [0] * n, [[0] * (n + 1), row]), [-1])
+
+
+class Refusals(WrongConditions):
+    """All that slopes and needed refuse alike."""
 
     def test_how_many_numbers_the_direction_has(self):
         for n in (1, 2, 3):
@@ -93,6 +99,8 @@ class Refusals:
 
 
 class HandedIn:
+    refused = REFUSED
+
     def test_stays_as_it_was(self):
         for n, direction, conditions in samples.questions(35, 120, 8, 3, 4):
             before = copy.deepcopy((direction, conditions))
@@ -101,7 +109,7 @@ class HandedIn:
             self.assertEqual(self.ask(n, *handed.kept(direction, conditions)), answer)
 
     def test_stays_as_it_was_where_refused(self):
-        for n, direction, conditions in REFUSED:
+        for n, direction, conditions in self.refused:
             before = copy.deepcopy((direction, conditions))
             answer = self.ask(n, *handed.kept(direction, conditions))
             self.assertEqual(len(answer), 1)

@@ -108,11 +108,14 @@ def best_ways(n, direction, conditions, greatest):
             yield way
 
 
+def first_nonsense(n, conditions):
+    return told_parts(next(ways(conditions, [0] * n + [-1], 1, n + 1)))
+
+
 def most(n, direction, conditions):
     found = extent(n, direction, conditions)
     if found is None:
-        target = [0] * n + [-1]
-        return [0] + told_parts(next(ways(conditions, target, 1, n + 1)))
+        return [0] + first_nonsense(n, conditions)
     if found[1] is None:
         return [1]
     greatest = Fraction(found[1])
@@ -125,6 +128,22 @@ def fixed(direction, value):
     return [row, [-number for number in row]]
 
 
+def axes(n):
+    return [[int(k == j) for j in range(n)] for k in range(n)]
+
+
+def greatest_numbers(n, rows):
+    """Of the places within the one that is greatest, number by number; None if one number goes on without end."""
+    numbers = []
+    for axis in axes(n):
+        greatest = extent(n, axis, rows)[1]
+        if greatest is None:
+            return None
+        numbers += told(Fraction(greatest))
+        rows = rows + fixed(axis, Fraction(greatest))
+    return numbers
+
+
 def place(n, direction, conditions):
     found = extent(n, direction, conditions)
     if found is None:
@@ -132,17 +151,17 @@ def place(n, direction, conditions):
     if found[1] is None:
         return [-7]
     best = conditions + fixed(direction, Fraction(found[1]))
-    axes = [[int(k == j) for j in range(n)] for k in range(n)]
-    extents = [extent(n, axis, best) for axis in axes]
+    extents = [extent(n, axis, best) for axis in axes(n)]
     only = all(least is not None and least == greatest for least, greatest in extents)
-    numbers = []
-    for axis in axes:
-        greatest = extent(n, axis, best)[1]
-        if greatest is None:
-            return [0]
-        numbers += told(Fraction(greatest))
-        best = best + fixed(axis, Fraction(greatest))
-    return [2 if only else 1] + numbers
+    numbers = greatest_numbers(n, best)
+    return [0] if numbers is None else [2 if only else 1] + numbers
+
+
+def within(n, conditions):
+    if extent(n, [0] * n, conditions) is None:
+        return [0] + first_nonsense(n, conditions)
+    numbers = greatest_numbers(n, conditions)
+    return [1] if numbers is None else [2] + numbers
 
 
 def slopes(n, condition, direction, conditions):

@@ -37,6 +37,10 @@ def slopes_of_the_first(n, direction, conditions):
     return linear.slopes(n, 0, direction, conditions)
 
 
+def within_alone(n, direction, conditions):
+    return linear.within(n, conditions)
+
+
 class Form(unittest.TestCase):
     def test_only_python_files(self):
         names = [path.name for path in PACKAGE.iterdir() if path.name != "__pycache__"]
@@ -93,7 +97,7 @@ class Quiet(unittest.TestCase):
     def test_it_prints_nothing(self):
         out = io.StringIO()
         with contextlib.redirect_stdout(out), contextlib.redirect_stderr(out):
-            for call in (linear.most, linear.place, slopes_of_the_first, linear.needed):
+            for call in (linear.most, linear.place, slopes_of_the_first, linear.needed, within_alone):
                 call(2, [1, 1], [[1, 0, 1], [0, 1, 1]])
                 call(2, [1, 1], [[0, 0, -1]])
                 call(0, [], [])

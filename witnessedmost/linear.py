@@ -64,8 +64,22 @@ def needed(n, direction, conditions):
     return [len(found)] + found
 
 
-def refusal(n, direction, conditions):
-    """The refusal that is told first, or 0 where nothing is refused."""
+def within(n, conditions):
+    """0 and the parts that tell that there's no place; 2 and the greatest place; 1 if that goes on without end."""
+    refused = refusal_of_conditions(n, conditions)
+    if refused < 0:
+        return [refused]
+    nonsense = no_place(n, conditions)
+    if nonsense is not None:
+        return [0] + told_parts(nonsense)
+    numbers = greatest_place(n, conditions)
+    if numbers is None:
+        return [1]
+    return [2] + joined(numbers)
+
+
+def refusal_of_conditions(n, conditions):
+    """The refusal of n and the conditions that is told first, or 0 where nothing is refused."""
     if n < 1 or n > MOST_NUMBERS:
         return -3
     if len(conditions) > MOST_CONDITIONS:
@@ -73,7 +87,15 @@ def refusal(n, direction, conditions):
     for condition in conditions:
         if not is_condition(n, condition):
             return -1
-    if not is_direction(n, direction):
+    return 0
+
+
+def refusal(n, direction, conditions):
+    """The refusal that is told first, or 0 where nothing is refused."""
+    refused = refusal_of_conditions(n, conditions)
+    if refused < 0:
+        return refused
+    if not are_numbers(n, direction):
         return -4
     return 0
 
@@ -93,11 +115,12 @@ def refusal_with_most(n, direction, conditions):
 def is_condition(n, condition):
     if len(condition) != n + 1:
         return False
-    return is_direction(n, condition[:n]) and abs(condition[n]) <= BOUND_LIMIT
+    return are_numbers(n, condition[:n]) and abs(condition[n]) <= BOUND_LIMIT
 
 
-def is_direction(n, numbers):
-    if len(numbers) != n:
+def are_numbers(count, numbers):
+    """Whether there are so many numbers, each within the limit."""
+    if len(numbers) != count:
         return False
     return all([abs(number) <= NUMBER_LIMIT for number in numbers])
 
