@@ -17,4 +17,8 @@ class Kept(list):
 
 
 def kept(direction, conditions):
-    return Kept(direction), Kept(Kept(condition) for condition in conditions)
+    return Kept(direction), kept_rows(conditions)
+
+
+def kept_rows(rows):
+    return Kept(Kept(row) for row in rows)

@@ -200,3 +200,42 @@ def slope_of_bound(n, condition, direction, conditions, sign):
     if after is None:
         return None
     return told(sign * Fraction(after[1] - extent(n, direction, scaled)[1]))
+
+
+def solution(rows, sides):
+    """The numbers that solve as many equations, or None where they aren't told by them."""
+    whole = determinant(rows)
+    if whole == 0:
+        return None
+    columns = list(zip(*rows))
+    numbers = []
+    for k in range(len(rows)):
+        swapped = columns[:k] + [tuple(sides)] + columns[k + 1:]
+        numbers.append(Fraction(determinant(swapped), whole))
+    return numbers
+
+
+def corner_parts(table):
+    """All parts for the rows at which so many columns come to the same, or parts are 0, that nothing else fits."""
+    count = len(table)
+    columns = list(zip(*table))
+    ties = [[a - b for a, b in zip(*pair)] for pair in combinations(columns, 2)]
+    for chosen in combinations(ties + axes(count), count - 1):
+        parts = solution([[1] * count] + list(chosen), [1] + [0] * (count - 1))
+        if parts is not None and min(parts) >= 0:
+            yield parts
+
+
+def worth_of_parts(table, parts):
+    return min(product(column, parts) for column in zip(*table))
+
+
+def game(table):
+    best = max([worth_of_parts(table, parts)] + parts for parts in corner_parts(table))
+    return [number for value in best for number in told(value)]
+
+
+def cost(table):
+    """The least that the other one need pay, whatever row is chosen."""
+    turned = [[-number for number in column] for column in zip(*table)]
+    return -max(worth_of_parts(turned, parts) for parts in corner_parts(turned))

@@ -50,3 +50,19 @@ def boxed_questions(start, amount, size, bound):
             for sign in (1, -1):
                 box.append([sign * (i == j) for i in range(n)] + [numbers.between(0, bound)])
         yield n, asked[1], box + asked[2]
+
+
+def tables(start, amount, size):
+    """Tables of games, of every allowed count of rows and of columns; some rows and columns stand twice."""
+    numbers = Numbers(start)
+    for k in range(amount):
+        rows = 2 + k % 2
+        columns = 1 + k // 2 % 4
+        table = [[numbers.between(-size, size) for j in range(columns)] for i in range(rows)]
+        kind = numbers.between(0, 7)
+        if kind == 0:
+            table[-1] = list(table[0])
+        elif kind == 1:
+            for row in table:
+                row[-1] = row[0]
+        yield table

@@ -1,7 +1,5 @@
 """That the package keeps to its small part of Python, as far as a look at its files shows."""
 import ast
-import contextlib
-import io
 import pathlib
 import re
 import unittest
@@ -31,14 +29,6 @@ def nodes(kind):
         for node in ast.walk(ast.parse(path.read_text())):
             if isinstance(node, kind):
                 yield path.name, node
-
-
-def slopes_of_the_first(n, direction, conditions):
-    return linear.slopes(n, 0, direction, conditions)
-
-
-def within_alone(n, direction, conditions):
-    return linear.within(n, conditions)
 
 
 class Form(unittest.TestCase):
@@ -91,14 +81,3 @@ class Form(unittest.TestCase):
             for node in ast.parse(path.read_text()).body:
                 if isinstance(node, ast.Assign):
                     self.assertIsInstance(node.value, ast.Constant)
-
-
-class Quiet(unittest.TestCase):
-    def test_it_prints_nothing(self):
-        out = io.StringIO()
-        with contextlib.redirect_stdout(out), contextlib.redirect_stderr(out):
-            for call in (linear.most, linear.place, slopes_of_the_first, linear.needed, within_alone):
-                call(2, [1, 1], [[1, 0, 1], [0, 1, 1]])
-                call(2, [1, 1], [[0, 0, -1]])
-                call(0, [], [])
-        self.assertEqual(out.getvalue(), "")

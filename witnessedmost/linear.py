@@ -9,6 +9,9 @@ MOST_NUMBERS = 3
 MOST_CONDITIONS = 8
 NUMBER_LIMIT = 100
 BOUND_LIMIT = 10000
+FEWEST_ROWS = 2
+MOST_ROWS = 3
+MOST_COLUMNS = 4
 
 
 def most(n, direction, conditions):
@@ -78,6 +81,15 @@ def within(n, conditions):
     return [2] + joined(numbers)
 
 
+def game(table):
+    """The game's worth, then the best parts for the rows."""
+    refused = refusal_of_table(table)
+    if refused < 0:
+        return [refused]
+    numbers = greatest_place(len(table), game_conditions(table))
+    return joined(numbers) + rest_of_one(numbers[1:])
+
+
 def refusal_of_conditions(n, conditions):
     """The refusal of n and the conditions that is told first, or 0 where nothing is refused."""
     if n < 1 or n > MOST_NUMBERS:
@@ -109,6 +121,18 @@ def refusal_with_most(n, direction, conditions):
         return -6
     if highest(direction, conditions) is None:
         return -7
+    return 0
+
+
+def refusal_of_table(table):
+    """The refusal that is told first of a game's table, or 0 where nothing is refused."""
+    if len(table) < FEWEST_ROWS or len(table) > MOST_ROWS:
+        return -2
+    columns = len(table[0])
+    if columns < 1 or columns > MOST_COLUMNS:
+        return -2
+    if not all([are_numbers(columns, row) for row in table]):
+        return -1
     return 0
 
 
@@ -199,6 +223,23 @@ def is_least_place(n, conditions, numbers):
         if value is None or value != [-numbers[k][0], numbers[k][1]]:
             return False
     return True
+
+
+def game_conditions(table):
+    """What allows just the parts for the rows, with whatever isn't above their worth ahead of them."""
+    # The last row's part is what the others leave of 1, so it is no number of the place.
+    count = len(table)
+    conditions = [column_condition(table, k) for k in range(len(table[0]))]
+    for k in range(1, count):
+        conditions.append(at_least(axis_of(count, k, 1), [0, 1]))
+    conditions.append([0] + [1] * (count - 1) + [1])
+    return conditions
+
+
+def column_condition(table, k):
+    """The condition that the place's first number isn't above what the column's numbers come to."""
+    last = table[-1][k]
+    return [1] + [last - row[k] for row in table[:-1]] + [last]
 
 
 def axis_of(n, k, sign):
@@ -314,6 +355,16 @@ def common_divisor(first, second):
         greater = lesser
         lesser = rest
     return greater
+
+
+def rest_of_one(parts):
+    """What the parts leave of 1."""
+    above = 1
+    below = 1
+    for part in parts:
+        above = above * part[1] - part[0] * below
+        below = below * part[1]
+    return fraction(above, below)
 
 
 def is_below(first, second):
